@@ -1,0 +1,1 @@
+"""Onecrest: sums of products that swell just once, whatever the weights."""
