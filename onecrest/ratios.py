@@ -132,12 +132,8 @@ def is_numbers(value, many):
 
 
 def ratio_of(value):
-    """The Ratio of a NUMBER's worth."""
-    if isinstance(value, Ratio):
-        return value
-    if not is_integer(value):
-        raise InvalidNumber(value)
-    return Ratio(value)
+    """The Ratio of a NUMBER's worth; InvalidNumber for any other value."""
+    return value if isinstance(value, Ratio) else Ratio(value)
 
 
 def ratios_of(numbers):
