@@ -131,6 +131,11 @@ def is_numbers(value, many):
     return is_list(value) and len(value) == many and all([is_number(number) for number in value])
 
 
+def is_from_nought(value, many):
+    """Whether any value is a list of so many NUMBERS from 0 on."""
+    return is_numbers(value, many) and all([ratio_of(number).sign >= 0 for number in value])
+
+
 def ratio_of(value):
     """The Ratio of a NUMBER's worth; InvalidNumber for any other value."""
     return value if isinstance(value, Ratio) else Ratio(value)

@@ -34,7 +34,7 @@ def value_at(table, first, second):
     check_table(table)
     check_direction(first, len(table))
     check_direction(second, len(table))
-    return _dotted(first, [_dotted(row, second) for row in table])
+    return dotted(first, [dotted(row, second) for row in table])
 
 
 def minor(table, places):
@@ -57,11 +57,11 @@ def changed(table, rows):
     if not _is_leading(rows, len(table)):
         raise InvalidRows(rows)
     columns = [[row[place] for row in rows] for place in range(len(rows[0]))]
-    multiplied = [[_dotted(row, column) for row in table] for column in columns]
-    return [[_dotted(column, numbers) for numbers in multiplied] for column in columns]
+    multiplied = [[dotted(row, column) for row in table] for column in columns]
+    return [[dotted(column, numbers) for numbers in multiplied] for column in columns]
 
 
-def _dotted(numbers, others):
+def dotted(numbers, others):
     """The sum of the products of numbers at the same places."""
     return Ratio.total([one * two for one, two in zip(numbers, others)])
 

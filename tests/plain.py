@@ -124,6 +124,8 @@ class Case(unittest.TestCase):
         ahead = [exact(value) for value in passed]
         told = call(*passed)
         text = exact(told)
+        inner = [id(part) for part in changeable(told)]
+        self.assertEqual(len(inner), len(set(inner)), "a list or a dict stands in it twice")
         self.assertEqual([exact(value) for value in passed], ahead)
         spoil(told)
         again = call(*passed)
@@ -136,6 +138,15 @@ class Case(unittest.TestCase):
         for value in ODD_VALUES:
             wanted = any(exact(value) == exact(one) for one in right)
             self.assertIs(call(*ahead, value), wanted, value)
+
+
+def changeable(value):
+    """All lists and dicts in a value that was told, one for each time that they stand there."""
+    found = [value] if isinstance(value, (list, dict)) else []
+    if isinstance(value, (list, tuple, dict)):
+        for part in value.values() if isinstance(value, dict) else value:
+            found += changeable(part)
+    return found
 
 
 def spoil(value):

@@ -7,7 +7,7 @@ from onecrest.errors import InvalidBlend, InvalidCounts, InvalidLetter, TooMany
 from onecrest.exchange import exchanges, is_mates, is_misfit, mate, mates, misfit
 from onecrest.pieces import apart_way
 from onecrest.taken import all_ways, taken
-from plain import ODD_VALUES, Case, all_counts, blends, one_thing_changed, random_blend
+from plain import ODD_VALUES, Case, all_counts, blends, one_thing_changed
 
 PAIRS = Blend("abc", [((1, 1, 0), 1), ((1, 0, 1), 2), ((0, 1, 1), 1)])
 GAP = Blend("ab", [((3, 1), 1), ((1, 3), 1)])
