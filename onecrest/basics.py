@@ -26,6 +26,13 @@ def is_small_letter(value):
     return isinstance(value, str) and len(value) == 1 and "a" <= value <= "z"
 
 
-def is_rising(letters):
-    """Whether the signs of a string are unlike and stand in alphabetical sequence."""
-    return all([one < two for one, two in zip(letters, letters[1:])])
+def is_rising(parts):
+    """Whether the signs of a string, or the numbers of a list, are unlike and each greater than the one ahead."""
+    return all([one < two for one, two in zip(parts, parts[1:])])
+
+
+def is_rising_counts(value, limit):
+    """Whether any value is a list, perhaps empty, of rising COUNTS below a limit."""
+    if not is_list(value) or not all([is_count(count) and count < limit for count in value]):
+        return False
+    return is_rising(value)

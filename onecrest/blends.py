@@ -131,6 +131,13 @@ def gathered(pairs):
     return [(counts, amounts[counts]) for counts in amounts]
 
 
+def in_sequence(letters, entries):
+    """The Blend of unlike letters in any sequence, in which the counts of the entries stand, too."""
+    told = "".join(sorted(letters))
+    places = [letters.index(letter) for letter in told]
+    return Blend(told, [(tuple([counts[place] for place in places]), amount) for counts, amount in entries])
+
+
 def _is_entry(entry, many, degree):
     """Whether any value is an entry of so many counts, of this degree where one is told."""
     if not isinstance(entry, tuple) or len(entry) != 2:

@@ -10,7 +10,7 @@ MOST_LACKING = 300
 def reach(blend, lot):
     """The greatest number of letters of the lot in one product."""
     check_blend(blend)
-    if not _is_lot(blend, lot):
+    if not is_lot(blend, lot):
         raise InvalidLot(lot)
     return _reach_of(blend)[lot]
 
@@ -51,7 +51,7 @@ def uneven(blend):
     return None
 
 
-def _is_lot(blend, value):
+def is_lot(blend, value):
     """Whether any value is a lot of letters of the blend."""
     if not isinstance(value, str) or value == "":
         return False

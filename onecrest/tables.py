@@ -1,6 +1,6 @@
 """Tables of numbers that are alike about their middle line, and the forms they stand for."""
 
-from onecrest.basics import is_count, is_list
+from onecrest.basics import is_list, is_rising_counts
 from onecrest.checks import check_direction
 from onecrest.elimination import determinant, rank_of
 from onecrest.errors import InvalidPlaces, InvalidRows, InvalidTable
@@ -40,7 +40,7 @@ def value_at(table, first, second):
 def minor(table, places):
     """The determinant of the numbers in these rows and columns."""
     check_table(table)
-    if not _is_places(places, len(table)):
+    if not is_rising_counts(places, len(table)) or len(places) == 0:
         raise InvalidPlaces(places)
     return determinant(ratio_rows([[table[i][j] for j in places] for i in places]))
 
@@ -64,15 +64,6 @@ def changed(table, rows):
 def dotted(numbers, others):
     """The sum of the products of numbers at the same places."""
     return Ratio.total([one * two for one, two in zip(numbers, others)])
-
-
-def _is_places(value, size):
-    """Whether any value is a rising list, not empty, of COUNTS below the size."""
-    if not is_list(value) or len(value) == 0:
-        return False
-    if not all([is_count(place) and place < size for place in value]):
-        return False
-    return all([one < two for one, two in zip(value, value[1:])])
 
 
 def _is_leading(value, many):
