@@ -3,7 +3,7 @@
 from onecrest.checks import check_blend
 from onecrest.pieces import halves, is_whole_tree, whole_tree
 from onecrest.quadrics import table_of
-from onecrest.ratios import Ratio, is_above, is_numbers, ratio_of
+from onecrest.ratios import Ratio, is_above, is_numbers, nearest, ratio_of
 from onecrest.signs import level
 from onecrest.squares import is_squares, squares
 from onecrest.taken import all_ways, is_way, taken
@@ -51,9 +51,8 @@ def dent(blend):
         return None
     left = taken(blend, way)
     weights = [Ratio(1) for _ in blend.letters]
-    if left.degree == 2:
-        return way, weights, level(table_of(left), weights)
-    return way, weights, _apart_direction(left, weights)
+    direction = level(table_of(left), weights) if left.degree == 2 else _apart_direction(left, weights)
+    return way, weights, _shortened(left, weights, direction)
 
 
 def is_dent(blend, value):
@@ -107,3 +106,13 @@ def _apart_direction(left, weights):
         else:
             direction.append(other if letter in two.bears() else Ratio(0))
     return direction
+
+
+def _shortened(left, weights, direction):
+    """INTEGERS, short ones, that are nearly a multiple of a direction in which a blend bends up, and are one, too."""
+    scale = 1
+    short = nearest(direction, scale)
+    while not bends_up(left, weights, short):
+        scale = scale * 10
+        short = nearest(direction, scale)
+    return short

@@ -144,3 +144,13 @@ def ratio_of(value):
 def ratios_of(numbers):
     """The Ratios of a list of NUMBERS."""
     return [ratio_of(number) for number in numbers]
+
+
+def nearest(numbers, scale):
+    """The INTEGERS, told as Ratios, next to so many times the numbers over the greatest of their sizes."""
+    greatest = Ratio(0)
+    for number in numbers:
+        if greatest.is_below(number.size()):
+            greatest = number.size()
+    times = [(number * scale).over(greatest) for number in numbers]
+    return [Ratio((number.top * 2 + number.bottom) // (number.bottom * 2)) for number in times]

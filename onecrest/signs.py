@@ -4,7 +4,7 @@ from math import gcd, lcm
 
 from onecrest.checks import check_weights
 from onecrest.errors import NotAbove
-from onecrest.ratios import Ratio, is_numbers
+from onecrest.ratios import Ratio, is_numbers, nearest
 from onecrest.squares import squares
 from onecrest.tables import check_table, dotted, ratio_rows, value_at
 
@@ -155,22 +155,12 @@ def _level_at(table, at, both):
 
 def _shortened(table, numbers):
     """INTEGERS, short ones, that are nearly a multiple of numbers with a value above 0, and have such a value, too."""
-    greatest = Ratio(0)
-    for number in numbers:
-        if greatest.is_below(number.size()):
-            greatest = number.size()
-    parts = [number.over(greatest) for number in numbers]
     scale = 1
-    short = _rounded(parts, scale)
+    short = nearest(numbers, scale)
     while value_at(table, short, short).sign <= 0:
         scale = scale * 10
-        short = _rounded(parts, scale)
+        short = nearest(numbers, scale)
     return short
-
-
-def _rounded(numbers, scale):
-    """The INTEGERS next to so many times the numbers, told as Ratios."""
-    return [Ratio((number.top * scale * 2 + number.bottom) // (number.bottom * 2)) for number in numbers]
 
 
 def _plain(numbers):

@@ -14,7 +14,7 @@ from onecrest.quadrics import quadrics
 from onecrest.ratios import Ratio
 from onecrest.signs import level
 from onecrest.taken import all_ways, taken
-from onecrest.worths import bends_up, lean
+from onecrest.worths import bends_up, lean, worth
 from plain import (ODD_VALUES, Case, all_counts, blends, changed_by, fraction, one_thing_changed, random_above,
                    random_blend, random_number, ratio, terms, worth_of)
 from test_pieces import is_right_tree, plain_pieces
@@ -327,7 +327,10 @@ class DentTest(Case):
         wide = Blend("abcdefgh", [(counts, six()) for counts in first + second])
         table = Blend("abcdefgh", [(counts, six()) for counts in all_counts(8, 2)])
         apart = Blend("abcdefgh", [((2, 1, 0, 0, 0, 0, 0, 0), six()), ((0, 0, 0, 1, 2, 0, 0, 0), six())])
-        for blend in (wide, table, apart):
+        # numbers made of three others: their sum has far more digits, but a dent need not tell it
+        long = Blend("abcdefgh", [(counts, six() * six() * six()) for counts in first + second])
+        self.assertGreater(digits([worth(long, [1] * 8)]), 2000)
+        for blend in (wide, table, apart, long):
             told = dent(blend)
             self.assertTrue(is_right_dent(blend, told))
             self.assertLessEqual(max(digits(told[1]), digits(told[2])), 2000)
