@@ -2,8 +2,8 @@
 
 from onecrest.basics import is_count
 from onecrest.blends import Blend, gathered, is_letters
-from onecrest.checks import check_blend, is_letter_of
-from onecrest.errors import HasSquares, InvalidLeads, InvalidLetter, InvalidLetters, InvalidMany, InvalidNumbers
+from onecrest.checks import check_blend, check_letter, check_two_letters
+from onecrest.errors import HasSquares, InvalidLeads, InvalidLetters, InvalidMany, InvalidNumbers
 from onecrest.errors import InvalidShare
 from onecrest.ratios import Ratio, is_from_nought, is_share, ratio_of
 
@@ -68,8 +68,7 @@ def along_numbers(blend, numbers):
 def cut(blend, letter, many):
     """The blend without the products that have a letter more often than so."""
     check_blend(blend)
-    if not is_letter_of(blend, letter):
-        raise InvalidLetter(letter)
+    check_letter(blend, letter)
     if not is_count(many):
         raise InvalidMany(many)
     place = blend.letters.index(letter)
@@ -79,10 +78,7 @@ def cut(blend, letter, many):
 def _check_two(blend, letter, other):
     """Two unlike letters of the blend."""
     check_blend(blend)
-    if not is_letter_of(blend, letter):
-        raise InvalidLetter(letter)
-    if not is_letter_of(blend, other) or other == letter:
-        raise InvalidLetter(other)
+    check_two_letters(blend, letter, other)
 
 
 def _is_leads(value, letters, many):

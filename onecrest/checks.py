@@ -1,9 +1,11 @@
 """What many functions ask of the parameters they share."""
 
-from onecrest.basics import is_counts, is_small_letter
+from onecrest.basics import is_counts, is_list, is_small_letter
 from onecrest.blends import Blend
 from onecrest.errors import InvalidBlend, InvalidDirection, InvalidLetter, InvalidWeights
-from onecrest.ratios import is_above, is_numbers
+from onecrest.ratios import is_above, is_from_nought, is_numbers
+
+MOST_IN_SQUARE = 5
 
 
 def check_blend(blend):
@@ -23,6 +25,18 @@ def check_direction(direction, many):
         raise InvalidDirection(direction)
 
 
+def check_letter(blend, letter):
+    if not is_letter_of(blend, letter):
+        raise InvalidLetter(letter)
+
+
+def check_two_letters(blend, letter, other):
+    """Two unlike letters of the blend."""
+    check_letter(blend, letter)
+    if not is_letter_of(blend, other) or other == letter:
+        raise InvalidLetter(other)
+
+
 def is_letter_of(blend, value):
     """Whether any value is a letter of the blend."""
     return is_small_letter(value) and value in blend.letters
@@ -31,3 +45,10 @@ def is_letter_of(blend, value):
 def is_product_of(blend, value):
     """Whether any value is the counts of a product of the blend."""
     return is_counts(value, len(blend.letters)) and blend.amount(value).sign > 0
+
+
+def is_square_from_nought(value):
+    """Whether any value is a list of 1 to 5 lists, each of as many NUMBERS from 0 on as there are lists."""
+    if not is_list(value) or not 1 <= len(value) <= MOST_IN_SQUARE:
+        return False
+    return all([is_from_nought(row, len(value)) for row in value])

@@ -3,9 +3,9 @@
 from onecrest.checks import check_blend
 from onecrest.pieces import halves, is_whole_tree, whole_tree
 from onecrest.quadrics import table_of
-from onecrest.ratios import Ratio, is_above, is_numbers, nearest, ratio_of
+from onecrest.ratios import Ratio, is_above, is_numbers, nearest
 from onecrest.signs import level
-from onecrest.squares import is_squares, squares
+from onecrest.squares import has_one_above, is_squares, squares
 from onecrest.taken import all_ways, is_way, taken
 from onecrest.worths import bends_up, worth
 
@@ -80,19 +80,14 @@ def _shown(left):
     if left.degree > 2:
         return whole_tree(left)
     found = squares(table_of(left))
-    return found if _has_one_above(found) else None
+    return found if has_one_above(found) else None
 
 
 def _is_shown(left, value):
     """Whether any value shows that a blend left is no fault."""
     if left.degree > 2:
         return is_whole_tree(left, value)
-    return is_squares(table_of(left), value) and _has_one_above(value)
-
-
-def _has_one_above(found):
-    """Whether at most one of some squares is above nought."""
-    return len([number for number, _ in found if ratio_of(number).sign > 0]) <= 1
+    return is_squares(table_of(left), value) and has_one_above(value)
 
 
 def _apart_direction(left, weights):

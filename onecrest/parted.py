@@ -4,7 +4,7 @@ from math import comb, factorial
 
 from onecrest.basics import is_small_letter
 from onecrest.blends import MOST_LETTERS, Blend, gathered, in_sequence, is_letters
-from onecrest.checks import check_blend, is_letter_of
+from onecrest.checks import check_blend, check_letter
 from onecrest.choices import all_lots
 from onecrest.errors import InvalidLetter, InvalidLetters, InvalidLot
 from onecrest.hulls import is_lot
@@ -13,8 +13,7 @@ from onecrest.hulls import is_lot
 def parted(blend, letter, letters):
     """The blend with each power of a letter as all products of so many of the letters, in equal shares."""
     check_blend(blend)
-    if not is_letter_of(blend, letter):
-        raise InvalidLetter(letter)
+    check_letter(blend, letter)
     if not _is_parting(blend, letter, letters):
         raise InvalidLetters(letters)
     place, many = blend.letters.index(letter), len(letters)

@@ -31,6 +31,16 @@ def is_squares(table, value):
     return all([number.sign == 0 for row in left for number in row])
 
 
+def has_one_above(found):
+    """Whether at most one of some squares is above nought."""
+    return len([number for number, _ in found if ratio_of(number).sign > 0]) <= 1
+
+
+def are_never_below(found):
+    """Whether none of some squares is below nought."""
+    return all([ratio_of(number).sign >= 0 for number, _ in found])
+
+
 def _is_square(value, size):
     """Whether any value is a NUMBER that is not 0, and a form of as many NUMBERS."""
     if not isinstance(value, tuple) or len(value) != 2:

@@ -52,6 +52,11 @@ def all_ways(blend):
     return found
 
 
+def way_of(letters, counts):
+    """The string of the letters, each so often as the counts tell."""
+    return "".join([letter * count for letter, count in zip(letters, counts)])
+
+
 def _times_taken(counts, outs):
     """By how much an amount is multiplied when each letter is taken out so often."""
     times = 1
@@ -81,8 +86,4 @@ def _lessened(counts, place):
 
 def _ways_of(blend, level):
     """The sorted list of the ways that have these counts."""
-    return sorted([_way_of(blend.letters, counts) for counts in level])
-
-
-def _way_of(letters, counts):
-    return "".join([letter * count for letter, count in zip(letters, counts)])
+    return sorted([way_of(blend.letters, counts) for counts in level])

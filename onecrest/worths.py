@@ -12,7 +12,7 @@ def worth(blend, weights):
     """The sum of the products at these weights, times their amounts."""
     check_blend(blend)
     check_weights(weights, len(blend.letters))
-    return _term(_line(blend, weights, [0] * len(weights)), 0)
+    return _term(line_of(blend, weights, [0] * len(weights)), 0)
 
 
 def slope(blend, weights, direction):
@@ -42,7 +42,7 @@ def along(blend, weights, direction):
     check_blend(blend)
     check_weights(weights, len(blend.letters))
     check_direction(direction, len(blend.letters))
-    return _line(blend, weights, direction)
+    return line_of(blend, weights, direction)
 
 
 def polar(blend, rows):
@@ -67,7 +67,7 @@ def _term(line, power):
     return line[power] if power < len(line) else Ratio(0)
 
 
-def _line(blend, weights, direction):
+def line_of(blend, weights, direction):
     """As along, without asking."""
     if blend.is_nought:
         return []
