@@ -26,6 +26,17 @@ def is_small_letter(value):
     return isinstance(value, str) and len(value) == 1 and "a" <= value <= "z"
 
 
+def fresh(value):
+    """The value with all lists and dicts in it new."""
+    if isinstance(value, list):
+        return [fresh(part) for part in value]
+    if isinstance(value, tuple):
+        return tuple([fresh(part) for part in value])
+    if isinstance(value, dict):
+        return {key: fresh(value[key]) for key in value}
+    return value
+
+
 def is_rising(parts):
     """Whether the signs of a string, or the numbers of a list, are unlike and each greater than the one ahead."""
     return all([one < two for one, two in zip(parts, parts[1:])])

@@ -1,8 +1,8 @@
-"""Lots of things: rising tuples of COUNTS, told by length, then sorted."""
+"""Lots of things: rising tuples of COUNTS, told by length, then sorted; ways stand so, too."""
 
 
 def by_length(lots):
-    """The lots by length, then sorted."""
+    """The lots, or ways, by length, then sorted."""
     return sorted(lots, key=_length_first)
 
 

@@ -49,6 +49,14 @@ def is_two_above(table, value):
     return value_at(table, first, second).sign == 0
 
 
+def one_below(table):
+    """A list with a value below 0, None if there is none."""
+    check_table(table)
+    turned = [[-number for number in row] for row in ratio_rows(table)]
+    found = _some_above(turned, 1)
+    return _shortened(turned, found[0]) if found else None
+
+
 def level(table, weights):
     """A direction that is level at the weights, None if there is none."""
     _check_above(table, weights)
@@ -74,7 +82,13 @@ def _check_above(table, weights):
 
 
 def _both_above(table):
-    """Two lists that show two above, however long their numbers are; None if there are none.
+    """Two lists that show two above, however long their numbers are; None if there are none."""
+    found = _some_above(table, 2)
+    return found if len(found) == 2 else None
+
+
+def _some_above(table, many):
+    """As many lists, or as many as there are, with values above 0, and none with one another.
 
     The rows are those of lists, at first with 1 at one place each; behind its numbers in the table each row has the
     list itself. What is taken out by a row has no number with any row that is left.
@@ -82,10 +96,10 @@ def _both_above(table):
     rows = [row + unit for row, unit in zip(ratio_rows(table), _units(len(table)))]
     places = list(range(len(table)))
     found = []
-    while len(found) < 2:
+    while len(found) < many:
         lead = _lead(rows, places)
         if lead is None:
-            return None
+            return found
         place, other = lead
         above = _above_list(rows, place, other)
         if above is not None:

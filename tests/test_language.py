@@ -111,7 +111,13 @@ class FilesTest(unittest.TestCase):
                                 or at == 0 and isinstance(node.value, ast.Constant), (name, node.lineno))
                 if isinstance(node, ast.Assign):
                     self.assertEqual(len(node.targets), 1)
-                    ast.literal_eval(node.value)
+                    table = node.value
+                    if isinstance(table, ast.Dict) and any(isinstance(part, ast.Name) for part in table.values):
+                        # a table of functions of this file, all defined above it
+                        above = {part.name for part in tree.body[:at] if isinstance(part, ast.FunctionDef)}
+                        self.assertLessEqual({part.id for part in table.values}, above, name)
+                        table = ast.List(table.keys)
+                    ast.literal_eval(table)
             names = list(defined(tree)) + [alias.name for node in tree.body if isinstance(node, ast.ImportFrom)
                                            for alias in node.names]
             self.assertEqual(len(names), len(set(names)), name)
@@ -173,12 +179,44 @@ class NamesTest(unittest.TestCase):
 
 class StatementsTest(unittest.TestCase):
     def test_kinds(self):
-        barred = (ast.Try, ast.Global, ast.AsyncFunctionDef, ast.Await, ast.GeneratorExp, ast.Yield, ast.YieldFrom,
-                  ast.Starred, ast.Div, ast.Lambda, ast.AnnAssign, ast.NamedExpr, ast.MatMult, ast.Delete)
+        barred = (ast.Global, ast.AsyncFunctionDef, ast.Await, ast.GeneratorExp, ast.Yield, ast.YieldFrom, ast.Div,
+                  ast.Lambda, ast.AnnAssign, ast.NamedExpr, ast.MatMult, ast.Delete)
         for name, node in nodes(barred):
             self.fail((name, type(node).__name__, getattr(node, "lineno", None)))
         for name, node in nodes(ast.arguments):
-            self.assertFalse(node.vararg or node.kwarg or node.kwonlyargs or node.posonlyargs, name)
+            self.assertFalse(node.kwarg or node.kwonlyargs or node.posonlyargs, name)
+
+    def test_stars(self):
+        for name, tree in TREES.items():
+            above = parents(tree)
+            for node in ast.walk(tree):
+                if isinstance(node, ast.Starred):
+                    self.assertIsInstance(node.value, ast.Name, name)
+                    self.assertIsInstance(above[node], ast.Call, name)
+                    self.assertEqual(above[node].args, [node], name)
+
+    def test_errors_caught(self):
+        own = set(defined(TREES["errors"]))
+        for name, node in nodes(ast.Try):
+            self.assertFalse(node.finalbody or node.orelse, (name, node.lineno))
+            for handler in node.handlers:
+                kinds = handler.type.elts if isinstance(handler.type, ast.Tuple) else [handler.type]
+                self.assertLessEqual({kind.id for kind in kinds}, own, (name, node.lineno))
+        for name, node in nodes(ast.Raise):
+            self.assertIsInstance(node.exc, ast.Call, (name, node.lineno))
+            self.assertIn(node.exc.func.id, own | {"TypeError"}, (name, node.lineno))
+
+    def test_blocks(self):
+        """A block is over a call of an own class; behind it attributes are put back, and no more."""
+        for name, node in nodes(ast.With):
+            self.assertTrue(all(isinstance(item.context_expr, ast.Call) for item in node.items), name)
+        for name, node in nodes(ast.FunctionDef):
+            if node.name == "__exit__":
+                for row in node.body:
+                    self.assertIsInstance(row, ast.Assign, name)
+                    self.assertIsInstance(row.value, ast.Attribute, name)
+            if node.name == "__iter__":
+                self.assertEqual([type(row) for row in node.body], [ast.Raise], name)
 
     def test_added_to(self):
         # numbers of the package have `+`: only a literal INTEGER is added in place

@@ -9,7 +9,7 @@ from onecrest.chances import chance
 from onecrest.errors import InvalidBlend, InvalidLetter, InvalidWeights, NotLots
 from onecrest.judge import is_crested
 from onecrest.lots import greatest_blend
-from onecrest.nets import Net, forests, trees
+from onecrest.nets import forests, trees
 from onecrest.pairs import helps, is_pair_paper, pair_paper, pair_slack, pair_table, together
 from onecrest.ratios import Ratio
 from onecrest.squares import is_squares, squares
