@@ -12,7 +12,7 @@ def read(text):
     if not isinstance(text, str):
         raise InvalidText(0)
     lines = text.split("\n")
-    reader = _reader_of(lines[0].split(" ")) if len(lines) > 1 else None
+    reader = _reader_of(lines[0].split(" "))
     if reader is None:
         raise InvalidText(1)
     for at in range(1, len(lines) - 1):

@@ -1,6 +1,6 @@
 """Two letters of a lot blend together: whether they help one another, pair tables and their papers."""
 
-from onecrest.chances import chance_of, check_lot_blend, check_weighed, products_chances
+from onecrest.chances import chance_of, check_weighed, products_chances
 from onecrest.checks import check_two_letters
 from onecrest.ratios import Ratio
 from onecrest.squares import are_never_below, is_squares, squares
@@ -49,10 +49,9 @@ def is_pair_paper(blend, weights, value):
 
 
 def _check_pair(blend, weights, letter, other):
-    """Weights, and two unlike letters, of a lot blend."""
+    """Weights, and two unlike letters, of a blend."""
     check_weighed(blend, weights)
     check_two_letters(blend, letter, other)
-    check_lot_blend(blend)
 
 
 def _single_product(blend, weights, letter, other):

@@ -87,7 +87,6 @@ def least_permanent(many):
 
 def choice(rows):
     """For each row the position of an entry above 0, unlike positions; None if there is no choice."""
-    check_rows(rows)
     found = [[]]
     for row in rows:
         places = [place for place, number in enumerate(row) if ratio_of(number).sign > 0]

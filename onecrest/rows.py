@@ -82,7 +82,6 @@ def check_row(row):
 
 def shares_of(row):
     """Each number of a row over the number of ways to pick as many things as its position tells."""
-    check_row(row)
     return [ratio_of(number).over(comb(len(row) - 1, k)) for k, number in enumerate(row)]
 
 

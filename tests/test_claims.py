@@ -229,6 +229,14 @@ class ClaimTest(Case):
                 right = [value for value in ODD_VALUES if is_right((word, table), value)]
                 self.judges(lambda value, claim=(word, table): is_paper_of(claim, value), right)
 
+    def test_judge_of_parts(self):
+        blend = Blend("abcdef", [((1, 1, 0, 0, 0, 0), 1), ((0, 0, 2, 0, 0, 0), 3), ((0, 0, 0, 1, 1, 0), 1)])
+        right = ["ab", "c", "de", "abc", "abde", "cde"]
+        for value in right + ["", "a", "b", "ba", "aab", "bc", "cab", "f", "abf", "cf", "abcde", "abcdef", "ac", "cc", "A",
+                              ["ab"], ("a", "b"), None, b"ab"]:
+            self.assertIs(is_paper_of(("apart", blend), value), value in right)
+        self.same(paper_of(("apart", blend)), "ab")
+
     def test_judge_of_rows(self):
         slacks = [Ratio(2, 3), Ratio(1, 9)]
         self.same([is_paper_of(("even", [1, 3, 1, 0]), value) for value in (

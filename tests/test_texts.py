@@ -256,7 +256,9 @@ class ReadTest(Case):
                      "product", "product ", "", "product 2 0 1/1"):
             self.wrong(3, ahead + line + "\n")
             self.wrong(3, ahead + line + "\nproduct 2 0 1\n")
-        self.wrong(2, "blend ab\nproduct 9 0 1\n")
+        for line in ("product 9 0 1", "product 2 1", "product 1 1 1 1", "product 1", "product 0 0 0 1"):
+            self.wrong(2, f"blend ab\n{line}\n")
+        self.wrong(3, ahead + "product 2 0 0 1\n")
         self.wrong(2, "blend ab\nproduct 4 5 1\n")
         self.same(read("blend ab\nproduct 4 4 1\n").degree, 8)
         lines = [f"product {' '.join(map(str, counts))} 1\n" for counts in FULL[:302]]
@@ -292,7 +294,8 @@ class ReadTest(Case):
         for line in ("tie a b 1", "square 1 1", "at", "at -", "at - trees", "at ba tree", "at - tree 1", "at aaaaaaaaa tree",
                      "at A tree", "at  tree", "At - tree", "", "-"):
             self.wrong(2, f"paper\n{line}\n")
-        for line in ("tie a a 1", "tie a 1", "tie a b", "tie a b" + " 1" * 9, "tie A b 1", "tie ab c 1", "tie a b -1",
+        for line in ("tie a a 1", "tie a 1", "tie a b", "tie a b" + " 1" * 9, "tie A b 1", "tie ab c 1", "tie a B 1", "tie a bc 1", "tie a - 1", "tip a b 1", "at a b 1",
+                     "tie a b -1",
                      "square 1 1", "tie", "at - tree", "tie  a b 1", "tie a b 1 "):
             self.wrong(3, f"paper\nat - tree\n{line}\n")
         for line in ("square 0 1", "square 1", "square 1" + " 1" * 9, "square", "tie a b 1", "at a tree", "squares 1 1"):
